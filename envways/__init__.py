@@ -1,0 +1,1 @@
+"""Envways: how functions keep the names they use."""

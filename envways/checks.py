@@ -1,0 +1,19 @@
+"""Checks of the numbers that are handed in."""
+
+from envways.errors import BadMost
+
+MOST_BEGUN = 60
+
+
+def is_whole(worth, low, high):
+    """Whether it is a whole number from low to high."""
+    # True and False are integers to Python, but no numbers here.
+    if isinstance(worth, bool) or not isinstance(worth, int):
+        return False
+    return low <= worth <= high
+
+
+def need_most(most):
+    """BadMost, unless it tells how many activations may begin."""
+    if not is_whole(most, 0, MOST_BEGUN):
+        raise BadMost(f"most is a whole number from 0 to {MOST_BEGUN}")
