@@ -60,6 +60,18 @@ def sized(many):
     return plus(sized(left), sized(many - 1 - left))
 
 
+def added(parts):
+    """All parts added up, as flat as can be."""
+    if len(parts) == 1:
+        return parts[0]
+    half = len(parts) // 2
+    return plus(added(parts[:half]), added(parts[half:]))
+
+
+# Sixty expressions, that come to 14 by as many calls.
+FULL = let(0, fun(1, name(1)), added([call(name(0), num(1))] * 14 + [num(0)]))
+
+
 def parts_with_paths(part, path=()):
     """All (path, part) as they stand in the text; a path tells which part of which part."""
     found = [(path, part)]
@@ -213,3 +225,59 @@ class Writer:
             return let(k, first, self.part(kind, {**around, k: inner}, depth))
         callee = self.chance.choice({"n": "fg", "f": "h"}.get(kind, "fgh"))
         return call(self.part(callee, around, depth), self.part(self.KINDS[callee][0], around, depth))
+
+
+class Nester:
+    """Writes programs by chance of funs within funs, which it calls one after the other."""
+
+    def __init__(self, chance):
+        self.chance = chance
+
+    def program(self):
+        while True:
+            made = self.outer()
+            paths = [path for path, part in parts_with_paths(made)]
+            if len(paths) <= 60 and max(map(len, paths)) <= 7:
+                return made
+
+    def outer(self):
+        many = self.chance.randint(1, 5)
+        first = self.layers(many, [])
+        called = name(9)
+        for _ in range(self.chance.choice((many, many, many - 1, many - 1, many + 1, 1))):
+            called = call(called, self.atom([9]))
+        # Now and then what a call came to is bound, and called anew.
+        if self.chance.random() < 0.3:
+            called = let(8, called, call(name(8), self.atom([8, 9])))
+        return let(9, first, called)
+
+    def layers(self, many, around):
+        if many == 0:
+            return self.body(around)
+        k = self.chance.randint(0, 5)
+        way = self.chance.random()
+        if way < 0.6:
+            return fun(k, self.layers(many - 1, around + [k]))
+        if way < 0.85:
+            return let(k, self.atom(around), self.layers(many - 1, around + [k]))
+        if way < 0.93:
+            return call(fun(k, self.layers(many - 1, around + [k])), self.atom(around))
+        return choice(self.atom(around), self.layers(many - 1, around), self.layers(many - 1, around))
+
+    def body(self, around):
+        way = self.chance.random()
+        if way < 0.5:
+            return plus(self.atom(around), self.atom(around))
+        if way < 0.7:
+            return fun(6, self.atom(around + [6]))
+        if way < 0.85:
+            return call(self.atom(around), self.atom(around))
+        return self.atom(around)
+
+    def atom(self, around):
+        way = self.chance.random()
+        if around and way < 0.7:
+            return name(self.chance.choice(around))
+        if way < 0.9:
+            return num(self.chance.choice((0, 1, 2, 999)))
+        return fun(7, name(self.chance.choice(around + [7])))
